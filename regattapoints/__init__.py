@@ -1,0 +1,1 @@
+"""A regatta scored."""
