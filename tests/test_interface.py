@@ -6,14 +6,26 @@ import unittest
 
 import regattapoints.regatta
 from regattapoints.regatta import answers
-from tests.helper import LARGEST, RACE, boat, finish, fleet, note, spell, start
+from tests.helper import (
+    LARGEST, ORDER, RACE, alike, boat, finish, fleet, note, place, points, sail, spell, start, total,
+)
 
-CALLS = spell([
-    start(21), start(2, 4), boat(800), boat(499), RACE, boat(900), finish(0, 1, 100), finish(0, 0, 200, 1),
-    finish(1, 0, 200), note(0, 1, 4), note(0, 1, 1), finish(0, 0, 200), start(1, 1), RACE,
-])
-ANSWERS = [1, -22, 1, 0, 1, 0, 1, -22, 1, 0, 1, 1, 1, 1, 1, 2, 1, -2, 1, 0, 1, -22, 1, 1, 1, -22, 1, 1]
-OTHER_CALLS = spell(fleet(1000, 1000, 1000, races=3) + [finish(0, 0, 1), finish(0, 1, 2), finish(0, 2, 3)])
+# All nine calls; each with what it answers.
+TOLD = [
+    (start(21), [-22]), (start(2, 4), [0]), (ORDER, [0]), (total(0), [-2]), (boat(800), [0]), (boat(499), [-22]),
+    (RACE, [0]), (boat(900), [1]), (finish(0, 1, 100), [1]), (finish(0, 0, 200, 1), [2]), (finish(1, 0, 200), [-2]),
+    (points(0, 0), [40]), (total(0), [40, 0]), (place(0), [2]), (ORDER, [2, 1, 0]),
+    (note(0, 1, 4), [0]), (note(0, 1, 1), [-22]), (points(0, 1), [60]), (total(1), [60, 0]), (place(1), [2]),
+    (RACE, [1]), (total(1), [60, 1]), (points(1, 2), [-2]), (total(2), [-2]), (place(2), [-2]),
+    (note(0, 1, 6), [0]), (total(1), [60, 2]), (ORDER, [2, 0, 1]), (finish(0, 0, 200), [1]),
+    (start(1, 1), [-22]), (RACE, [2]), (start(1), [0]), (ORDER, [0]), (boat(), [0]), (ORDER, [1, 0]),
+    (RACE, [0]), (total(0), [0, 1]),
+]
+CALLS = spell([call for call, answer in TOLD])
+ANSWERS = [number for call, answer in TOLD for number in [len(answer)] + answer]
+OTHER_CALLS = spell(
+    alike(3, races=3, limits=(1, 2, 3)) + sail(0, [0], [1], [2]) + [points(0, 2), total(1), place(2), ORDER]
+)
 
 
 def long_calls():
@@ -26,6 +38,30 @@ def long_calls():
         calls += finish(k % 20, 5, 1000000 - k, k % 2)
         wanted += [1, 1]
     return calls, wanted
+
+
+def long_calls_of_all_sorts():
+    """A list of 4000 calls on 32 boats and 20 races, and what they are answered."""
+    told = [(start(5, 10, 20), [0])]
+    told += [(boat(1000 + number), [number]) for number in range(32)] + [(RACE, [race]) for race in range(20)]
+    told += [(finish(race, number, 500), [number + 1]) for race in range(20) for number in range(32)]
+    left_out = 2 ** 0 + 2 ** 1 + 2 ** 2
+    k = 0
+    while len(told) < 3999:
+        number = k % 32
+        told.append([
+            (finish(k % 20, number, 500), [number + 1]),
+            (points(k % 20, number), [20 * number + 20]),
+            (total(number), [17 * (20 * number + 20), left_out]),
+            (place(number), [number + 1]),
+            (ORDER, [32] + list(range(32))),
+            (points(20, number), [-2]),
+            (total(32 + number), [-2]),
+        ][k % 7])
+        k += 1
+    told.append((ORDER, [32] + list(range(32))))
+    calls = spell([call for call, answer in told])
+    return calls, [number for call, answer in told for number in [len(answer)] + answer]
 
 
 class WatchedList(list):
@@ -58,8 +94,15 @@ class Interface(unittest.TestCase):
         calls, wanted = long_calls()
         self.assert_long_answers(calls, wanted)
 
+    def test_4000_calls_of_all_sorts(self):
+        calls, wanted = long_calls_of_all_sorts()
+        self.assert_long_answers(calls, wanted)
+
     def test_4000_starts(self):
         self.assert_long_answers([0, 21, 0, 0] * 3999 + [0, 1, 2, 3], [1, -22] * 3999 + [1, 0])
+
+    def test_all_nine_calls_are_among_them(self):
+        self.assertEqual(sorted(set(call[0] for call, answer in TOLD)), list(range(9)))
 
     def test_numbers_are_plain_whole_numbers_in_a_list(self):
         answered = answers(list(CALLS))
